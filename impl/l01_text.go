@@ -111,3 +111,8 @@ func Clamp(n int, low int, high int) int {
 	// The lower bound is applied last so that it wins if high is less than low.
 	return max(low, min(n, high))
 }
+
+// inRange reports whether n is in the range low to high.
+func inRange(n int, low int, high int) bool {
+	return low <= n && n <= high
+}
