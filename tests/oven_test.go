@@ -233,6 +233,9 @@ func TestLeastRoomIsEnough(t *testing.T) {
 				}
 				continue
 			}
+			if room < 1 || room > 500 {
+				t.Fatalf("LeastRoom(%v, 3, %d) = %d", list, minutes, room)
+			}
 			if got, _ := timeByLoading(list, room, 3); got > minutes {
 				t.Errorf("LeastRoom(%v, 3, %d) = %d is not enough", list, minutes, room)
 			}
