@@ -116,3 +116,28 @@ func Clamp(n int, low int, high int) int {
 func inRange(n int, low int, high int) bool {
 	return low <= n && n <= high
 }
+
+// allInRange reports whether all numbers are in the range low to high.
+func allInRange(low int, high int, numbers ...int) bool {
+	for _, n := range numbers {
+		if !inRange(n, low, high) {
+			return false
+		}
+	}
+	return true
+}
+
+// isAscending reports whether each element of list is smaller than the next one.
+func isAscending(list []int) bool {
+	for i := 1; i < len(list); i++ {
+		if list[i-1] >= list[i] {
+			return false
+		}
+	}
+	return true
+}
+
+// distance returns the magnitude of the difference of a and b.
+func distance(a int, b int) int {
+	return max(a-b, b-a)
+}
