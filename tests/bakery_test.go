@@ -34,7 +34,7 @@ func badBakeries(t *testing.T) []impl.Bakery {
 		b.Stock = s
 		list = append(list, b)
 	}
-	for _, d := range badWeighedDoughs() {
+	for _, d := range badDoughs() {
 		b := good
 		b.Dough = d
 		list = append(list, b)

@@ -59,20 +59,11 @@ func TestReadTimeAllShort(t *testing.T) {
 	for minute := range 1440 {
 		times[impl.TimeText(minute)] = minute
 	}
-	const letters = "01259: h"
-	texts := []string{""}
-	for range 6 {
-		var longer []string
-		for _, text := range texts {
-			want, wantOk := times[text]
-			if got, ok := impl.ReadTime(text); got != want || ok != wantOk {
-				t.Errorf("ReadTime(%q) = %d, %v; want %d, %v", text, got, ok, want, wantOk)
-			}
-			for _, c := range letters {
-				longer = append(longer, text+string(c))
-			}
+	for _, text := range shortTexts("01259: h", 5) {
+		want, wantOk := times[text]
+		if got, ok := impl.ReadTime(text); got != want || ok != wantOk {
+			t.Errorf("ReadTime(%q) = %d, %v; want %d, %v", text, got, ok, want, wantOk)
 		}
-		texts = longer
 	}
 }
 
@@ -164,20 +155,11 @@ func TestReadLengthAllShort(t *testing.T) {
 	for minutes := range 60 * 1000 {
 		lengths[impl.LengthText(minutes)] = minutes
 	}
-	const letters = "0256hm :"
-	texts := []string{""}
-	for range 7 {
-		var longer []string
-		for _, text := range texts {
-			want, wantOk := lengths[text]
-			if got, ok := impl.ReadLength(text); got != want || ok != wantOk {
-				t.Errorf("ReadLength(%q) = %d, %v; want %d, %v", text, got, ok, want, wantOk)
-			}
-			for _, c := range letters {
-				longer = append(longer, text+string(c))
-			}
+	for _, text := range shortTexts("0256hm :", 6) {
+		want, wantOk := lengths[text]
+		if got, ok := impl.ReadLength(text); got != want || ok != wantOk {
+			t.Errorf("ReadLength(%q) = %d, %v; want %d, %v", text, got, ok, want, wantOk)
 		}
-		texts = longer
 	}
 }
 

@@ -4,6 +4,7 @@ import (
 	"math"
 	"slices"
 	"testing"
+	"unsafe"
 )
 
 // farOut has numbers that are in no range of the document; with some of them,
@@ -47,4 +48,27 @@ func repeated[T any](n int, value T) []T {
 		list[i] = value
 	}
 	return list
+}
+
+// sharesText reports whether part begins in the memory of whole.
+func sharesText(part string, whole string) bool {
+	begin := uintptr(unsafe.Pointer(unsafe.StringData(whole)))
+	at := uintptr(unsafe.Pointer(unsafe.StringData(part)))
+	return at >= begin && at < begin+uintptr(len(whole))
+}
+
+// shortTexts returns all texts of at most so many of the letters.
+func shortTexts(letters string, most int) []string {
+	texts := []string{""}
+	from := 0
+	for range most {
+		to := len(texts)
+		for _, text := range texts[from:to] {
+			for _, letter := range letters {
+				texts = append(texts, text+string(letter))
+			}
+		}
+		from = to
+	}
+	return texts
 }

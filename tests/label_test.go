@@ -286,23 +286,14 @@ func TestReadLabel(t *testing.T) {
 
 // Of all short texts, just those that join valid names are read.
 func TestReadLabelAllShort(t *testing.T) {
-	const letters = "ab, A"
-	texts := []string{""}
-	for range 7 {
-		var longer []string
-		for _, text := range texts {
-			got, ok := impl.ReadLabel(text)
-			if ok && (strings.Join(got, ", ") != text || strings.ContainsAny(strings.Join(got, ""), ", A") || slices.Contains(got, "")) {
-				t.Errorf("ReadLabel(%q) = %q", text, got)
-			}
-			if wanted := isLabel(text); ok != wanted {
-				t.Errorf("ReadLabel(%q) = %q, %v; want %v", text, got, ok, wanted)
-			}
-			for _, c := range letters {
-				longer = append(longer, text+string(c))
-			}
+	for _, text := range shortTexts("ab, A", 6) {
+		got, ok := impl.ReadLabel(text)
+		if ok && (strings.Join(got, ", ") != text || strings.ContainsAny(strings.Join(got, ""), ", A") || slices.Contains(got, "")) {
+			t.Errorf("ReadLabel(%q) = %q", text, got)
 		}
-		texts = longer
+		if wanted := isLabel(text); ok != wanted {
+			t.Errorf("ReadLabel(%q) = %q, %v; want %v", text, got, ok, wanted)
+		}
 	}
 }
 
@@ -325,6 +316,23 @@ func isLabel(text string) bool {
 			return false
 		}
 		text = text[n+2:]
+	}
+}
+
+func TestLabelsHaveMemoryOfTheirOwn(t *testing.T) {
+	text := strings.Join([]string{"flour", "rye", "salt"}, ", ")
+	names, _ := impl.ReadLabel(text)
+	for _, name := range names {
+		if sharesText(name, text) {
+			t.Errorf("the name %q shares memory with the label", name)
+		}
+	}
+	only := []impl.Part{{Name: text[:5], Grams: 1000}}
+	results := append(impl.MustName(only, 0), impl.SortedParts(only)[0].Name, impl.LabelText(only), impl.PercentText(only[0], 1000))
+	for _, result := range results {
+		if sharesText(result, text) {
+			t.Errorf("%q shares memory with the name of the part", result)
+		}
 	}
 }
 

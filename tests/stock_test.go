@@ -212,7 +212,7 @@ func TestStockRejects(t *testing.T) {
 			}
 		}
 	}
-	for _, d := range badWeighedDoughs() {
+	for _, d := range badDoughs() {
 		check(d, 0)
 		check(d, 100)
 		if got := impl.MostFlour(s, d); got != -1 {

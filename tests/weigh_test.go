@@ -25,20 +25,6 @@ func weighedDoughs() []impl.Dough {
 	return list
 }
 
-func badWeighedDoughs() []impl.Dough {
-	list := []impl.Dough{{}}
-	for _, n := range outside(300, 1200) {
-		list = append(list, impl.Dough{Water: n, Salt: 20, Leaven: 200})
-	}
-	for _, n := range outside(0, 50) {
-		list = append(list, impl.Dough{Water: 650, Salt: n, Leaven: 200})
-	}
-	for _, n := range outside(0, 500) {
-		list = append(list, impl.Dough{Water: 650, Salt: 20, Leaven: n})
-	}
-	return list
-}
-
 // weighedFlours are in their range, with some of which amounts are 0 or equal.
 var weighedFlours = []int{0, 1, 2, 3, 10, 24, 25, 26, 500, 999, 1000, 1001, 12345, 999999, 1000000}
 
@@ -163,7 +149,7 @@ func TestWeighRejects(t *testing.T) {
 			t.Errorf("MissingPart and TwiceIn of %v, %d and %d = %d and %d, want -1", d, flour, weight, a, b)
 		}
 	}
-	for _, d := range badWeighedDoughs() {
+	for _, d := range badDoughs() {
 		for _, weight := range []int{0, 900, 5000000} {
 			check(d, 500, weight)
 			check(d, 0, weight)
